@@ -1,0 +1,1 @@
+"""Packetpicture: a picture codec that reports exactly what is known."""
