@@ -24,6 +24,16 @@ def check_size(width, height, channels):
         raise OutOfRange("size")
 
 
+def same_kind(one, other):
+    """Return True if two frames, two pictures, or one of each have the same four numbers."""
+    return (
+        one.width == other.width
+        and one.height == other.height
+        and one.depth == other.depth
+        and one.channels == other.channels
+    )
+
+
 class Frame:
     """The kind of a picture, and the side of its tiles."""
 
@@ -59,13 +69,7 @@ class Frame:
 
     def same(self, other):
         """Return True if the other frame has the same five numbers."""
-        return (
-            self.width == other.width
-            and self.height == other.height
-            and self.depth == other.depth
-            and self.channels == other.channels
-            and self.tile == other.tile
-        )
+        return same_kind(self, other) and self.tile == other.tile
 
 
 def tile_corner(frame, tile):

@@ -1,8 +1,8 @@
 """Pictures (points 4 and 5)."""
 
 from packetpicture.checks import check_range
-from packetpicture.errors import OutOfRange
-from packetpicture.frames import Frame, check_kind, check_size
+from packetpicture.errors import OtherKind, OutOfRange
+from packetpicture.frames import Frame, check_kind, check_size, same_kind
 
 
 def check_values(width, height, depth, channels, values):
@@ -43,13 +43,7 @@ class Picture:
 
     def same(self, other):
         """Return True if the other picture is of the same kind and has the same values."""
-        return (
-            self.width == other.width
-            and self.height == other.height
-            and self.depth == other.depth
-            and self.channels == other.channels
-            and self._rows == other.rows()
-        )
+        return same_kind(self, other) and self._rows == other.rows()
 
     def with_value(self, channel, pixel, value):
         """Return a new picture with another value of a pixel in a channel."""
@@ -67,12 +61,13 @@ class Picture:
 
 def fits_frame(frame, picture):
     """Return True if the picture fits the frame."""
-    return (
-        picture.width == frame.width
-        and picture.height == frame.height
-        and picture.depth == frame.depth
-        and picture.channels == frame.channels
-    )
+    return same_kind(frame, picture)
+
+
+def check_fits(frame, picture):
+    """Raise OtherKind if the picture does not fit the frame."""
+    if not fits_frame(frame, picture):
+        raise OtherKind("the picture does not fit the frame")
 
 
 def blank(frame):

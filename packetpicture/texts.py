@@ -14,7 +14,6 @@ GREATEST_VALUES = (1, 3, 7, 15, 31, 63, 127, 255)
 HEADER_NAMES = ("width", "height", "greatest value")
 GREATEST_MOST = 255
 HEADER_SIZE = 3
-BLANKS = " \t\n\r"
 
 
 def without_comments(text):
@@ -38,7 +37,7 @@ def split_words(plain):
     words = []
     start = 0
     for at, letter in enumerate(plain + " "):
-        if letter in BLANKS:
+        if letter.isspace():
             if start < at:
                 words.append((start, plain[start:at]))
             start = at + 1

@@ -1,7 +1,9 @@
 """The rules of the language that are easily broken by an edit: size, characters, strings."""
 
 import ast
+import builtins
 import pathlib
+import re
 import unittest
 
 PACKAGE = pathlib.Path(__file__).resolve().parent.parent / "packetpicture"
@@ -31,6 +33,26 @@ class Language(unittest.TestCase):
             for number, line in enumerate(lines, 1):
                 self.assertLessEqual(len(line), 120, f"{file.name}:{number}")
                 self.assertTrue(all(" " <= letter <= "~" for letter in line), f"{file.name}:{number}")
+
+    def test_escapes(self):
+        for file in self.files:
+            for found in re.findall(r"\\.", file.read_text()):
+                self.assertIn(found, (r"\n", r"\t", r"\\", r"\"", r"\'"), file.name)
+
+    def test_names(self):
+        for file in self.files:
+            tree = ast.parse(file.read_text())
+            imported = [alias.name for node in ast.walk(tree) if isinstance(node, ast.ImportFrom)
+                        for alias in node.names]
+            classes = [node.name for node in ast.walk(tree) if isinstance(node, ast.ClassDef)]
+            for node in ast.walk(tree):
+                if isinstance(node, ast.arg):
+                    name = node.arg
+                elif isinstance(node, ast.Name) and isinstance(node.ctx, ast.Store):
+                    name = node.id
+                else:
+                    continue
+                self.assertNotIn(name, imported + classes + dir(builtins), f"{file.name}:{node.lineno}")
 
     def test_functions(self):
         for place, node in self.nodes(ast.FunctionDef):

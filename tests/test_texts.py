@@ -6,9 +6,9 @@ import unittest
 
 from packetpicture import texts
 from packetpicture.errors import TextFault
-from packetpicture.pictures import Picture
+from packetpicture.frames import Frame
 from packetpicture.texts import check_text, read_text, write_text
-from tests.checking import out_of_range
+from tests.checking import out_of_range, random_picture
 
 KIND = "expected P2 or P3"
 ODD = "unexpected character"
@@ -111,12 +111,10 @@ FAULTS = (
 )
 
 
-def random_picture(chance):
-    """Return a picture that the source of chance chooses."""
+def random_frame(chance):
+    """Return a small frame that the source of chance chooses."""
     width, height, depth = chance.randint(1, 6), chance.randint(1, 6), chance.randint(1, 8)
-    channels = chance.choice((1, 3))
-    rows = [[chance.randrange(2 ** depth) for _ in range(width * height)] for _ in range(channels)]
-    return Picture(width, height, depth, channels, rows)
+    return Frame(width, height, depth, chance.choice((1, 3)), 1)
 
 
 def position(text, index):
@@ -245,7 +243,7 @@ class Words(unittest.TestCase):
     def test_reading_the_written_form(self):
         chance = random.Random(9)
         for _ in range(100):
-            picture = random_picture(chance)
+            picture = random_picture(chance, random_frame(chance))
             text = write_text(picture)
             self.assertIsNone(check_text(text))
             self.assertTrue(read_text(text).same(picture))
