@@ -102,12 +102,24 @@ def known_prefix(width, count, code):
     return prefix_of(width, count, code)
 
 
+def marked(prefix, count):
+    """Return the known prefix of `count` bits with a question mark for each other place."""
+    return prefix + "?" * (count - len(prefix))
+
+
 def known(width, count, code):
     """Return the known prefix with a question mark for each other place, or None."""
     prefix = known_prefix(width, count, code)
-    if prefix is None:
-        return None
-    return prefix + "?" * (count - len(prefix))
+    return None if prefix is None else marked(prefix, count)
+
+
+def sample_of(prefix, count, place, bit):
+    """Return the sample for a known prefix of `count` bits; the arguments are not checked."""
+    if len(prefix) == count:
+        return prefix
+    more = count - len(prefix) - 1
+    lower = last_with_zero(prefix, more)
+    return lower if lower[place] == bit else first_with_one(prefix, more)
 
 
 def sample(width, count, code, place, bit):
@@ -117,8 +129,4 @@ def sample(width, count, code, place, bit):
     if bit not in ("0", "1"):
         raise OutOfRange("bit")
     prefix = prefix_of(width, count, code)
-    if prefix is None or len(prefix) == count:
-        return prefix
-    more = count - len(prefix) - 1
-    lower = last_with_zero(prefix, more)
-    return lower if lower[place] == bit else first_with_one(prefix, more)
+    return None if prefix is None else sample_of(prefix, count, place, bit)

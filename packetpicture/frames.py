@@ -84,6 +84,12 @@ def tile_size(frame, tile):
     return min(frame.tile, frame.width - left), min(frame.tile, frame.height - top)
 
 
+def tile_places(frame, tile):
+    """Return the number of the pixels of a tile."""
+    width, height = tile_size(frame, tile)
+    return width * height
+
+
 def tile_pixels(frame, tile):
     """Return the numbers of the pixels of a tile, in the order of places."""
     left, top = tile_corner(frame, tile)
