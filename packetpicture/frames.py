@@ -72,6 +72,15 @@ class Frame:
         return same_kind(self, other) and self.tile == other.tile
 
 
+def frame_of(numbers):
+    """Return the frame with these five numbers, or None if there is none."""
+    width, height, depth, channels, tile = numbers
+    try:
+        return Frame(width, height, depth, channels, tile)
+    except OutOfRange:
+        return None
+
+
 def tile_corner(frame, tile):
     """Return the first column and the first row of a tile."""
     across = frame.across()

@@ -16,6 +16,11 @@ SMALL = (
 )
 
 
+def places(frame):
+    """Return all pairs of a channel and a pixel."""
+    return [(channel, pixel) for channel in range(frame.channels) for pixel in range(frame.pixels())]
+
+
 def brute_code(frame, picture, key):
     """Return the code of a packet, by going through all lengths."""
     return brute.code(tile_size(frame, key[1])[0], packet_bits(frame, picture, key))

@@ -30,6 +30,15 @@ FUNCTIONS = {
     "witnesses": "witness(arrived, channel, pixel, end)",
     "numbering": """count_pictures(arrived) agrees(arrived, picture) number_of(arrived, picture)
         picture_at(arrived, number)""",
+    "plans": """check_rectangle(rectangle) check_regions(regions) touches(frame, rectangle, tile)
+        boost(frame, regions, tile) score(frame, regions, key) plan(frame, regions)
+        bound(frame, regions, count)""",
+    "needs": """needed(frame, rectangle, channel, planes) near(picture, planes) negative(picture)
+        changed(frame, one, other)""",
+    "crops": """check_tiles(frame, rectangle) crop_frame(frame, rectangle)
+        crop(frame, rectangle, picture) paste(frame, rectangle, picture, part)""",
+    "files": "check_pair(row) pack(bits) unpack(row, count) write_file(frame, packets)",
+    "reading": "read_file(row)",
 }
 
 CLASSES = {
@@ -47,6 +56,7 @@ CONSTANTS = {
     "texts": {"TEXT_MOST": 14000},
     "contexts": {"BITS_MOST": 256, "WIDTH_MOST": 16, "CODE_MOST": 400},
     "arrived": {"START_MOST": 65535, "DIGITS_MOST": 65535},
+    "reading": {"FILE_MOST": 100000},
 }
 
 

@@ -13,16 +13,13 @@ from packetpicture.ranges import (
     error_bound, exact_count, gray_known, greatest_error, greatest_value, least_value,
     possible_values, shown_value, value_range, view,
 )
-from tests.agreeing import SMALL, agreeing, all_whole, partly_arrived, point_34, states
+from tests.agreeing import (
+    SMALL, agreeing, all_whole, partly_arrived, places, point_34, states,
+)
 from tests.checking import HUGE, out_of_range, random_picture
 
 LARGE = ((20, 18, 3, 1, 16), (9, 7, 8, 3, 4), (6, 5, 4, 3, 1))
 SINGLE = (least_value, greatest_value, shown_value, error_bound, possible_values, value_range)
-
-
-def places(frame):
-    """Return all pairs of a channel and a pixel."""
-    return [(channel, pixel) for channel in range(frame.channels) for pixel in range(frame.pixels())]
 
 
 def large_states(chance):

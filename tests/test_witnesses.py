@@ -11,16 +11,11 @@ from packetpicture.numbering import agrees
 from packetpicture.packets import all_packets
 from packetpicture.ranges import greatest_value, least_value
 from packetpicture.witnesses import witness
-from tests.agreeing import SMALL, agreeing, partly_arrived, point_34, states
+from tests.agreeing import SMALL, agreeing, partly_arrived, places, point_34, states
 from tests.checking import HUGE, out_of_range, random_picture
 
 LARGE = ((20, 18, 2, 1, 16), (9, 7, 3, 3, 4))
 ENDS = (("least", least_value), ("greatest", greatest_value))
-
-
-def places(frame):
-    """Return all pairs of a channel and a pixel."""
-    return [(channel, pixel) for channel in range(frame.channels) for pixel in range(frame.pixels())]
 
 
 def known_bit(arrived, key, place):
