@@ -21,8 +21,10 @@ def gray_at(arrived, channel, pixel, plane):
 
 def grays_at(arrived, channel, pixel):
     """Return the gray bits from the highest plane on, None for each that is not known."""
-    planes = reversed(range(arrived.frame.depth))
-    return [gray_at(arrived, channel, pixel, plane) for plane in planes]
+    return [
+        gray_at(arrived, channel, pixel, plane)
+        for plane in reversed(range(arrived.frame.depth))
+    ]
 
 
 def end_of(grays, unknown):
