@@ -39,6 +39,10 @@ FUNCTIONS = {
         crop(frame, rectangle, picture) paste(frame, rectangle, picture, part)""",
     "files": "check_pair(row) pack(bits) unpack(row, count) write_file(frame, packets)",
     "reading": "read_file(row)",
+    "requests": """is_open(arrived, key) request(arrived, regions) check_requests(frame, requests)
+        answer(frame, picture, requests, count) missing(arrived, picture)""",
+    "remainder": """bits_needed(number) remainder_length(arrived)
+        remainder(frame, picture, requests) finish(arrived, digits)""",
 }
 
 CLASSES = {
@@ -49,6 +53,12 @@ CLASSES = {
         with_value(self, channel, pixel, value) framed(self, tile)""",
     ("arrived", "Arrived"): """__init__(self, frame) digits(self, key) accept(self, key, start, bits)
         packets(self) digit_count(self) duplicate(self) same(self, other)""",
+    ("viewer", "Viewer"): """__init__(self, frame) receive(self, key, start, bits)
+        receive_file(self, row) undo(self) packets(self) state(self)
+        value_range(self, channel, pixel)""",
+    ("source", "Source"): """__init__(self, picture, tile) shown(self)
+        change(self, channel, pixel, value) paste(self, rectangle, part) undo(self)
+        send(self, requests, count) send_remainder(self, requests) file_bytes(self, regions)""",
 }
 
 CONSTANTS = {
@@ -57,6 +67,7 @@ CONSTANTS = {
     "contexts": {"BITS_MOST": 256, "WIDTH_MOST": 16, "CODE_MOST": 400},
     "arrived": {"START_MOST": 65535, "DIGITS_MOST": 65535},
     "reading": {"FILE_MOST": 100000},
+    "viewer": {"UNDO_MOST": 16},
 }
 
 
