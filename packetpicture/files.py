@@ -34,6 +34,11 @@ def two_bytes(number):
     return [number // 256, number % 256]
 
 
+def number_at(row, at):
+    """Return the number in the two bytes from this index on."""
+    return row[at] * 256 + row[at + 1]
+
+
 def bytes_for(count):
     """Return how many bytes this many digits take."""
     return (count + 7) // 8

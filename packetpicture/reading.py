@@ -9,6 +9,7 @@ from packetpicture.files import (
     PAIR_SIZE,
     bytes_for,
     check_pair,
+    number_at,
     unpack,
 )
 from packetpicture.frames import frame_of, key_at
@@ -25,11 +26,6 @@ def check_file(row):
         raise OutOfRange("file")
     for byte in row:
         check_range("file", byte, 0, 255)
-
-
-def number_at(row, at):
-    """Return the number in the two bytes from this index on."""
-    return row[at] * 256 + row[at + 1]
 
 
 def is_checked(row):

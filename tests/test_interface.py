@@ -43,6 +43,10 @@ FUNCTIONS = {
         answer(frame, picture, requests, count) missing(arrived, picture)""",
     "remainder": """bits_needed(number) remainder_length(arrived)
         remainder(frame, picture, requests) finish(arrived, digits)""",
+    "blocks": """encode_record(number, start, digits) decode_record(block)
+        encode_header(generation, frame) decode_header(block)""",
+    "keeper": """area_size(disk) area_start(disk, area) format_disk(disk, frame) newest_header(disk)
+        open_keeper(disk)""",
 }
 
 CLASSES = {
@@ -59,6 +63,20 @@ CLASSES = {
     ("source", "Source"): """__init__(self, picture, tile) shown(self)
         change(self, channel, pixel, value) paste(self, rectangle, part) undo(self)
         send(self, requests, count) send_remainder(self, requests) file_bytes(self, regions)""",
+    ("network", "Network"): """__init__(self, picture, tile, ends) send(self, end, regions, count)
+        letters(self) drop(self, number) duplicate(self, number) truncate(self, number, count)
+        redirect(self, number, end) deliver(self, number) state(self, end) missing(self, end)
+        shown(self)""",
+    ("disks", "Disk"): """__init__(self, blocks) size(self) read(self, at) write(self, at, block)
+        flush(self) pending_count(self) cut_count(self) cut_power(self, torn)
+        schedule_cut(self, count, torn)""",
+    ("keeper", "Keeper"): """receive(self, key, start, bits) sync(self) compact(self) state(self)
+        free_blocks(self) value_range(self, channel, pixel)""",
+    ("link", "Link"): """__init__(self, picture, tile, blocks) send(self, regions, count)
+        letters(self) drop(self, number) duplicate(self, number) truncate(self, number, count)
+        deliver(self, number) sync(self) compact(self) schedule_cut(self, count, torn)
+        cut_power(self, torn) reopen(self) state(self) value_range(self, channel, pixel)
+        shown(self)""",
 }
 
 CONSTANTS = {
@@ -68,6 +86,9 @@ CONSTANTS = {
     "arrived": {"START_MOST": 65535, "DIGITS_MOST": 65535},
     "reading": {"FILE_MOST": 100000},
     "viewer": {"UNDO_MOST": 16},
+    "network": {"ENDS_MOST": 4},
+    "disks": {"BLOCK": 32, "BLOCKS_MOST": 400},
+    "blocks": {"RECORD_MOST": 160},
 }
 
 
